@@ -1,0 +1,1 @@
+"""Two-person card trick: encoding a hidden card."""
