@@ -1,5 +1,7 @@
 """Different rows for hands, where each hand has a list of the rows that it can show."""
 
+from hiddencard.limits import are_different
+
 
 def take_row(hand, choices, owners, tried):
     """Whether the hand gets a row, while the hands that own rows may change theirs; notes the new owners."""
@@ -49,13 +51,19 @@ def first_assignment(choices):
     return assigned
 
 
-def count_together(choices, members):
-    """The number of different rows that these hands can show."""
-    shown = {}
-    for hand in members:
-        for row in choices[hand]:
-            shown[row] = True
-    return len(shown)
+def is_assignment(choices, rows):
+    """Whether each hand can show its row, and all rows are different."""
+    shown = [row in choices[hand] for hand, row in enumerate(rows)]
+    return all(shown) and are_different(rows)
+
+
+def count_together(choices):
+    """The number of different rows that the hands can show together."""
+    together = {}
+    for rows in choices:
+        for row in rows:
+            together[row] = True
+    return len(together)
 
 
 def first_deficient_set(choices):
@@ -63,7 +71,7 @@ def first_deficient_set(choices):
     # A mask is the sum of 2 ^ h over the members h, so the masks come in the order asked for.
     for mask in range(1, 1 << len(choices)):
         members = [hand for hand in range(len(choices)) if (mask >> hand) & 1 == 1]
-        row_count = count_together(choices, members)
+        row_count = count_together([choices[hand] for hand in members])
         if row_count < len(members):
             return members, row_count
     return None

@@ -1,8 +1,8 @@
 """The scheme by suits (Fitch Cheney)."""
 
-from hiddencard.limits import MOST_CARDS, NOT_DETERMINED, NOT_PLAYABLE, NOT_THE_CARDS, OUT_OF_RANGE
+from hiddencard.limits import MOST_CARDS, NOT_DETERMINED, NOT_POSSIBLE, NOT_THE_CARDS, OUT_OF_RANGE
 from hiddencard.limits import are_cards, is_hand, is_row, within
-from hiddencard.ranking import arrangement_at, arrangement_index, factorial
+from hiddencard.ranking import factorial, number_of_arrangement, numbered_arrangement
 
 
 def greatest_distance(suits):
@@ -37,13 +37,13 @@ def shown_and_hidden_by_suit(suits, ranks, hand):
         return None
     first, hidden = pair
     others = [card for card in hand if card not in pair]
-    return [first] + arrangement_at(distance(first, hidden, ranks) - 1, others), hidden
+    return [first] + numbered_arrangement(others, distance(first, hidden, ranks) - 1), hidden
 
 
 def determined_card_by_suit(suits, ranks, row):
     """The card that the row determines, or None."""
     first = row[0]
-    steps = arrangement_index(row[1:]) + 1
+    steps = number_of_arrangement(row[1:]) + 1
     if steps >= ranks:
         return None
     card = first // ranks * ranks + (first % ranks + steps) % ranks
@@ -58,7 +58,7 @@ def encode_by_suit(suits, ranks, hand):
     if not (within(suits, 1, 5) and within(ranks, 1, MOST_CARDS) and are_cards(hand, 6)):
         return [OUT_OF_RANGE]
     if not is_playable(suits, ranks):
-        return [NOT_PLAYABLE]
+        return [NOT_POSSIBLE]
     if not is_hand(hand, suits + 1, suits * ranks):
         return [NOT_THE_CARDS]
     parts = shown_and_hidden_by_suit(suits, ranks, hand)
@@ -73,7 +73,7 @@ def decode_by_suit(suits, ranks, row):
     if not (within(suits, 1, 5) and within(ranks, 1, MOST_CARDS) and are_cards(row, 5)):
         return [OUT_OF_RANGE]
     if not is_playable(suits, ranks):
-        return [NOT_PLAYABLE]
+        return [NOT_POSSIBLE]
     if not is_row(row, suits, suits * ranks):
         return [NOT_THE_CARDS]
     card = determined_card_by_suit(suits, ranks, row)

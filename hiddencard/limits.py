@@ -2,7 +2,8 @@
 
 OUT_OF_RANGE = -1
 NOT_THE_CARDS = -3
-NOT_PLAYABLE = -5
+NO_SUCH_HAND = -4
+NOT_POSSIBLE = -5
 NOT_DETERMINED = -7
 
 MOST_CARDS = 52
@@ -23,6 +24,11 @@ def is_increasing(cards):
     return all([cards[place - 1] < cards[place] for place in range(1, len(cards))])
 
 
+def are_different(things):
+    """Whether none of these cards, hands or rows is there twice."""
+    return len(set(things)) == len(things)
+
+
 def are_of_deck(cards, count, deck):
     """Whether these are exactly so many cards, all of the deck."""
     return len(cards) == count and all([card < deck for card in cards])
@@ -35,4 +41,4 @@ def is_hand(cards, count, deck):
 
 def is_row(cards, count, deck):
     """Whether these are so many different cards of the deck, in any order."""
-    return are_of_deck(cards, count, deck) and len(set(cards)) == count
+    return are_of_deck(cards, count, deck) and are_different(cards)

@@ -1,8 +1,8 @@
 """The optimal scheme, which works with the greatest possible deck."""
 
-from hiddencard.limits import MOST_CARDS, NOT_DETERMINED, NOT_PLAYABLE, NOT_THE_CARDS, OUT_OF_RANGE
+from hiddencard.limits import MOST_CARDS, NOT_DETERMINED, NOT_POSSIBLE, NOT_THE_CARDS, OUT_OF_RANGE
 from hiddencard.limits import are_cards, is_hand, is_row, within
-from hiddencard.ranking import arrangement_at, factorial
+from hiddencard.ranking import factorial, numbered_arrangement, sequence_count
 
 
 def greatest_deck(n):
@@ -15,7 +15,7 @@ def shown_and_hidden(n, hand):
     position = sum(hand) % n
     hidden = hand[position]
     others = hand[:position] + hand[position + 1:]
-    return arrangement_at((hidden - position) // n, others), hidden
+    return numbered_arrangement(others, (hidden - position) // n), hidden
 
 
 def determined_card(n, deck, row):
@@ -31,7 +31,7 @@ def encode_hand(n, deck, hand):
     if not (within(n, 1, 5) and within(deck, 1, MOST_CARDS) and are_cards(hand, 5)):
         return [OUT_OF_RANGE]
     if deck > greatest_deck(n):
-        return [NOT_PLAYABLE]
+        return [NOT_POSSIBLE]
     if not is_hand(hand, n, deck):
         return [NOT_THE_CARDS]
     row, hidden = shown_and_hidden(n, hand)
@@ -43,7 +43,7 @@ def decode_row(n, deck, row):
     if not (within(n, 1, 5) and within(deck, 1, MOST_CARDS) and are_cards(row, 4)):
         return [OUT_OF_RANGE]
     if deck > greatest_deck(n):
-        return [NOT_PLAYABLE]
+        return [NOT_POSSIBLE]
     if not is_row(row, n - 1, deck):
         return [NOT_THE_CARDS]
     card = determined_card(n, deck, row)
@@ -57,3 +57,11 @@ def max_deck_size(n):
     if not within(n, 1, 18):
         return [OUT_OF_RANGE]
     return [0, greatest_deck(n)]
+
+
+def hand_and_row_count(n, deck):
+    """Operation 14: the numbers of hands and of rows of the deck."""
+    if not (within(n, 1, 5) and within(deck, 1, MOST_CARDS)):
+        return [OUT_OF_RANGE]
+    # Among the lists of n cards each hand is there once for each arrangement of its cards.
+    return [0, sequence_count(deck, n) // factorial(n), sequence_count(deck, n - 1)]

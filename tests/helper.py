@@ -1,8 +1,15 @@
-"""Asks the program: calls are written as tuples, answers come as one list for each call."""
+"""What several tests share: asking the program, and the document's words about hands done the slow way.
+
+Calls are written as tuples, answers come as one list for each call.
+"""
+
+from itertools import combinations, permutations, product
 
 from hiddencard.trick import answers
 
 BIG = 10 ** 18
+
+ALL_PAIRS = [0, 1, 0, 2, 0, 3, 1, 2, 1, 3, 2, 3]
 
 
 def flat(calls):
@@ -42,3 +49,30 @@ def ask_many(calls):
     for start in range(0, len(calls), 100):
         split.extend(ask(*calls[start:start + 100]))
     return split
+
+
+def rows_of(hand):
+    """The rows of a hand by the document's words."""
+    rows = []
+    for hidden in hand:
+        rows.extend(permutations([card for card in hand if card != hidden]))
+    return rows
+
+
+def one_behind_another(rows):
+    """The cards of all rows or hands in one list."""
+    return [card for row in rows for card in row]
+
+
+def expected_assignment(hands):
+    """The answer to find_assignment, found by trying everything."""
+    choices = [rows_of(hand) for hand in hands]
+    for rows in product(*choices):
+        if len(set(rows)) == len(rows):
+            return [0, 1] + one_behind_another(rows)
+    sets = [c for size in range(1, len(hands) + 1) for c in combinations(range(len(hands)), size)]
+    for members in sorted(sets, key=lambda chosen: sum(2 ** h for h in chosen)):
+        shown = {row for h in members for row in choices[h]}
+        if len(shown) < len(members):
+            return [0, 0, len(members)] + list(members) + [len(shown)]
+    raise AssertionError("neither an assignment nor a deficient set")

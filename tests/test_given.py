@@ -1,39 +1,11 @@
 """Operations 5 to 7: the rows of hands, the given hands and their assignment."""
 
 import unittest
-from itertools import combinations, permutations, product
+from itertools import combinations, permutations
 
-from hiddencard.given import GivenHands
-from tests.helper import BIG, ask, ask_many, ask_one
+from tests.helper import ALL_PAIRS, BIG, ask, ask_many, ask_one, expected_assignment, one_behind_another, rows_of
 
-ALL_PAIRS = [0, 1, 0, 2, 0, 3, 1, 2, 1, 3, 2, 3]
 EIGHT_PAIRS = [0, 1, 2, 3, 4, 5, 6, 7, 8, 9, 10, 11, 12, 13, 14, 15]
-
-
-def rows_of(hand):
-    """The rows of a hand by the document's words."""
-    rows = []
-    for hidden in hand:
-        rows.extend(permutations([card for card in hand if card != hidden]))
-    return rows
-
-
-def one_behind_another(rows):
-    return [card for row in rows for card in row]
-
-
-def expected_assignment(hands):
-    """The answer to find_assignment, found by trying everything."""
-    choices = [rows_of(hand) for hand in hands]
-    for rows in product(*choices):
-        if len(set(rows)) == len(rows):
-            return [0, 1] + one_behind_another(rows)
-    sets = [c for size in range(1, len(hands) + 1) for c in combinations(range(len(hands)), size)]
-    for members in sorted(sets, key=lambda chosen: sum(2 ** h for h in chosen)):
-        shown = {row for h in members for row in choices[h]}
-        if len(shown) < len(members):
-            return [0, 0, len(members)] + list(members) + [len(shown)]
-    raise AssertionError("neither an assignment nor a deficient set")
 
 
 class PossibleRows(unittest.TestCase):
@@ -78,15 +50,8 @@ class SetHands(unittest.TestCase):
         self.assertEqual(answered, [[0, 2], [0, 1, 1, 3], [0, 1], [0, 1, 5, 6], [0, 0], [0, 1]])
 
     def test_size_of_the_hands(self):
-        given_hands = GivenHands()
-        self.assertEqual(given_hands.size, 2)
-        given_hands.set_hands(3, [0, 1, 2])
-        self.assertEqual(given_hands.size, 3)
-        self.assertEqual(given_hands.set_hands(4, []), [0, 0])
-        self.assertEqual((given_hands.size, given_hands.hands), (4, []))
-        self.assertEqual(given_hands.set_hands(2, [1, 0]), [-3])
-        self.assertEqual(given_hands.set_hands(5, []), [-1])
-        self.assertEqual((given_hands.size, given_hands.hands), (4, []))
+        answered = ask((15,), (6, 3, [0, 1, 2]), (15,), (6, 4, []), (15,), (6, 2, [1, 0]), (6, 5, []), (15,))
+        self.assertEqual(answered, [[0, 2, 0, 0], [0, 1], [0, 3, 1, 6], [0, 0], [0, 4, 0, 0], [-3], [-1], [0, 4, 0, 0]])
 
     def test_eight_hands_and_nine(self):
         self.assertEqual(ask_one(6, 2, EIGHT_PAIRS), [0, 8])

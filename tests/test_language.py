@@ -100,6 +100,14 @@ class Language(unittest.TestCase):
                 if isinstance(node, ast.Name):
                     self.assertIn(node.id, bound | OWN_NAMES)
 
+    def test_no_local_is_called_like_a_class_or_an_import(self):
+        for tree in self.each_tree():
+            taken = {node.name for node in tree.body if isinstance(node, ast.ClassDef)}
+            taken |= {alias.name for node in tree.body if isinstance(node, ast.ImportFrom) for alias in node.names}
+            for function in ast.walk(tree):
+                if isinstance(function, ast.FunctionDef):
+                    self.assertEqual((bound_names(function) - {function.name}) & taken, set(), function.name)
+
     def test_methods(self):
         own = set()
         trees = list(self.each_tree())

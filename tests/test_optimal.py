@@ -1,8 +1,8 @@
-"""Operations 0 to 2: the optimal scheme."""
+"""Operations 0 to 2 and 14: the optimal scheme."""
 
 import unittest
 from itertools import combinations, permutations
-from math import factorial
+from math import comb, factorial, perm
 
 from tests.helper import BIG, ask_many, ask_one
 
@@ -132,6 +132,43 @@ class MaxDeckSize(unittest.TestCase):
     def test_outside_the_range(self):
         for n in (0, 19, -1, BIG, -BIG):
             self.assertEqual(ask_one(2, n), [-1])
+
+
+class HandAndRowCount(unittest.TestCase):
+    def test_ordinary_decks(self):
+        self.assertEqual(ask_one(14, 3, 8), [0, 56, 56])
+        self.assertEqual(ask_one(14, 3, 9), [0, 84, 72])
+        self.assertEqual(ask_one(14, 5, 52), [0, 2598960, 6497400])
+        self.assertEqual(ask_one(14, 1, 1), [0, 1, 1])
+        self.assertEqual(ask_one(14, 1, 52), [0, 52, 1])
+
+    def test_deck_smaller_than_a_hand(self):
+        self.assertEqual(ask_one(14, 2, 1), [0, 0, 1])
+        self.assertEqual(ask_one(14, 5, 4), [0, 0, 24])
+        self.assertEqual(ask_one(14, 5, 3), [0, 0, 0])
+        self.assertEqual(ask_one(14, 5, 1), [0, 0, 0])
+
+    def test_every_n_and_deck(self):
+        for n in range(1, 6):
+            for deck in range(1, 53):
+                with self.subTest(n=n, deck=deck):
+                    self.assertEqual(ask_one(14, n, deck), [0, comb(deck, n), perm(deck, n - 1)])
+
+    def test_small_decks_counted_one_by_one(self):
+        for n in range(1, 6):
+            for deck in range(1, 9):
+                hands = list(combinations(range(deck), n))
+                rows = list(permutations(range(deck), n - 1))
+                self.assertEqual(ask_one(14, n, deck), [0, len(hands), len(rows)])
+
+    def test_outside_the_range(self):
+        for wrong in (0, -1, BIG, -BIG):
+            for right in (1, 3, 5):
+                self.assertEqual(ask_one(14, wrong, right), [-1])
+                self.assertEqual(ask_one(14, right, wrong), [-1])
+            self.assertEqual(ask_one(14, wrong, wrong), [-1])
+        self.assertEqual(ask_one(14, 6, 52), [-1])
+        self.assertEqual(ask_one(14, 5, 53), [-1])
 
 
 class EveryHand(unittest.TestCase):
